@@ -1,0 +1,1 @@
+"""Slideback: decks whose cards go back each to its own depth."""
