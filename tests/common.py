@@ -46,7 +46,7 @@ NO_DECKS = (
 
 
 def not_numbers(most):
-    """What is no whole number from 0 to the most."""
+    """What is no whole number from 0 to the most; a program that takes them all fails before it meets a huge one."""
     return [-1, -2, most + 1, most + 2, HUGE, -HUGE] + [
         True, False, None, "", "0", "1", 0.0, 1.0, b"1", [], [0], [1], (), (1,), {}, {1: 1},
     ]
