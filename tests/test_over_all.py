@@ -2,7 +2,9 @@
 
 import inspect
 import unittest
+from contextlib import ExitStack
 from copy import deepcopy
+from unittest.mock import patch
 
 from slideback import ahead, decks
 from slideback.ahead import decks_ahead, goes_back
@@ -11,7 +13,6 @@ from slideback.errors import Full, Last, NoCard, NoDeck, NoDepth, NoName, NoNumb
 from tests.common import HUGE, all_forms, as_lists, chance_decks, deck_with, is_told_deck, left_alone, refusal
 
 DECK = (("a", 2), ("b", 0), ("c", 2), ("d", 3))
-
 
 # Each call, with what is handed in behind the deck, by its place and by its name.
 ASKS = [
@@ -84,6 +85,21 @@ class Interface(unittest.TestCase):
         steps = inspect.signature(decks_ahead).parameters["steps"]
         self.assertEqual(steps.kind, inspect.Parameter.KEYWORD_ONLY)
         self.assertEqual(steps.default, 1)
+
+
+class NothingFromOutside(unittest.TestCase):
+    """Promise 1: nothing uses a clock, chance or files."""
+
+    def test_all_is_told_without_clock_chance_and_files(self):
+        before = all_answers(DECK)
+        outside = ["time.time", "time.monotonic", "time.perf_counter", "time.time_ns", "builtins.open", "io.open"]
+        outside += ["os.open", "os.urandom", "random.random", "random.randrange", "random.shuffle", "random.choice"]
+        with ExitStack() as barred:
+            calls = [barred.enter_context(patch(name, side_effect=OSError)) for name in outside]
+            answers = all_answers(DECK)
+            asked = [call.called for call in calls]
+        self.assertEqual(answers, before)
+        self.assertEqual(asked, [False] * len(outside))
 
 
 class KindsThatAreTold(unittest.TestCase):
