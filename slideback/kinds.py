@@ -1,6 +1,6 @@
 """What a thing that is handed in is: a number, a name, a card."""
 
-from slideback.errors import NoNumber
+from slideback.errors import NoNumber, NoStep
 
 MOST_LETTERS = 8
 
@@ -24,6 +24,12 @@ def require_number(thing, most):
 def is_depth(thing):
     """Whether the thing is a whole number from 0 on."""
     return is_whole(thing) and thing >= 0
+
+
+def require_step(thing):
+    """Refuse what is no whole number from 0 on."""
+    if not is_whole(thing) or thing < 0:
+        raise NoStep("no whole number from 0 on")
 
 
 def is_listed(thing):

@@ -13,6 +13,9 @@ NO_NAMES = [
 
 NO_DEPTHS = [-1, -2, -HUGE, True, False, None, "", "0", "1", 0.0, 1.0, b"1", [], [1], (), (1,), {}]
 
+# What is no whole number from 0 on is no depth, no step and no number of times.
+NO_COUNTS = NO_DEPTHS
+
 NO_CARDS = (
     [None, 0, 1, True, "", "a", "a1", "ab", b"ab", 1.5, {}, {"a": 1}, {"a": 1, "b": 2}, {"a", "b"}]
     + [(), [], ("a",), ["a"], ("a", 1, 2), ["a", 1, 2], ("a", 1, "a", 1), (1, "a"), (("a", 1),), ("a", "b")]
@@ -105,6 +108,105 @@ def chance_decks(many, seed, most=40):
         depths = [chance.choice([0, 1, place, place, size - 1, chance.randint(0, size + 3)]) for place in range(size)]
         decks.append(tuple((letters(name), depth) for name, depth in zip(names, depths)))
     return decks
+
+
+def lively_decks(many, seed, least=2, most=40, odds=0.12):
+    """So many decks, the same ones each time, that mostly close late; by the odds a card may be away."""
+    chance = Random(seed)
+    decks = []
+    for _ in range(many):
+        size = chance.randint(least, most)
+        depths = [place + chance.choice([1, 1, 1, 2, 3, chance.randint(1, size)]) for place in range(size)]
+        for place in range(1, size):
+            if chance.random() < odds:
+                depths[place] = chance.randint(1, place)
+        names = chance.sample(range(676), size)
+        decks.append(tuple((letters(name), depth) for name, depth in zip(names, depths)))
+    return decks
+
+
+def late_decks(many, seed):
+    """So many decks, the same ones each time, of which most have cards away that move only far on."""
+    chance = Random(seed)
+    decks = []
+    for _ in range(many):
+        size = chance.randint(24, 40)
+        depths = [place + chance.choice([1, 1, 1, 2, 3]) for place in range(size)]
+        for place in chance.sample(range(size * 2 // 3, size), 3):
+            depths[place] = chance.randint(place - 6, place)
+        decks.append(deck_with(depths))
+    return decks
+
+
+def crowded_deck():
+    """A deck whose cards come up and home by some two hundred steps, the last of them past five hundred million."""
+    depths = [16, 12, 19, 24, 20, 16, 16, 21, 23, 27, 26, 28, 32, 11, 21, 29, 22, 10, 25, 35]
+    depths += [20, 32, 33, 24, 6, 30, 37, 9, 8, 34, 38, 3, 36, 2, 1, 5, 8, 4, 0, 7]
+    return deck_with(depths)
+
+
+def rising_deck(cards):
+    """The deck of so many cards whose reaches are 1, 2, 3 and so on, from the top on."""
+    return deck_with(range(1, cards + 1))
+
+
+def reaches_by_hand(deck):
+    """The reaches of a deck's cards, from the top on."""
+    return [min(depth, len(deck) - 1) for _, depth in deck]
+
+
+def closed_by_hand(deck):
+    """The least m from 1 on so that the cards at the places below m have all reaches below m."""
+    reaches = reaches_by_hand(deck)
+    return min(m for m in range(1, len(deck) + 1) if all(reach < m for reach in reaches[:m]))
+
+
+def away_by_hand(deck):
+    """The names above the closed place that lie beneath their reaches, from the top on."""
+    reaches = reaches_by_hand(deck)
+    return [deck[place][0] for place in range(closed_by_hand(deck)) if reaches[place] < place]
+
+
+class GoneByHand:
+    """A deck gone through card by card until it comes round; small decks alone come round soon."""
+
+    def __init__(self, deck):
+        self.decks = []
+        known = {}
+        while deck not in known:
+            known[deck] = len(self.decks)
+            self.decks.append(deck)
+            deck = slid_by_hand(deck)
+        self.first = known[deck]
+        self.length = len(self.decks) - self.first
+        self.names = [one[0][0] for one in self.decks]
+
+    def index(self, step):
+        """The index of the deck behind so many steps."""
+        return step if step < self.first else self.first + (step - self.first) % self.length
+
+    def behind(self, steps):
+        """The deck behind so many steps."""
+        return self.decks[self.index(steps)]
+
+    def often(self, steps, name):
+        """How often a name is seen by the first so many steps."""
+        if steps <= self.first:
+            return self.names[:steps].count(name)
+        turns, left = divmod(steps - self.first, self.length)
+        once = self.names[self.first:].count(name)
+        return self.names[:self.first].count(name) + turns * once + self.names[self.first:self.first + left].count(name)
+
+    def when(self, name, number):
+        """The step at which a name is seen for the so-manieth time, or None."""
+        ahead = [step for step in range(self.first) if self.names[step] == name]
+        round_ = [step for step in range(self.first, len(self.names)) if self.names[step] == name]
+        if number < len(ahead):
+            return ahead[number]
+        if not round_:
+            return None
+        turns, at = divmod(number - len(ahead), len(round_))
+        return turns * self.length + round_[at]
 
 
 def left_alone(call, *told, **named):

@@ -6,15 +6,24 @@ from contextlib import ExitStack
 from copy import deepcopy
 from unittest.mock import patch
 
-from slideback import ahead, decks
+from slideback import ahead, decks, far, homes, levels
 from slideback.ahead import decks_ahead, goes_back
 from slideback.decks import deck_behind, deck_of, deepened, drawn, laid, row_seen, slid
-from slideback.errors import Full, Last, NoCard, NoDeck, NoDepth, NoName, NoNumber, NoPlace, TooMany, Twice
+from slideback.errors import (
+    Full, Last, NoCard, NoDeck, NoDepth, NoLevel, NoName, NoNumber, NoPlace, NoStep, NotLasting, NotSettled, TooMany,
+    Twice,
+)
+from slideback.far import deck_at, how_often, seen_at, when_seen
+from slideback.homes import are_lasting, home_orders, is_settled, orders_counted, patterns, ring_sizes
+from slideback.levels import away, closed_place, hand_at, is_home, place_of, ring_at
 from tests.common import HUGE, all_forms, as_lists, chance_decks, deck_with, is_told_deck, left_alone, refusal
 
+# b is away.
 DECK = (("a", 2), ("b", 0), ("c", 2), ("d", 3))
+# Of lasting cards, and settled; depths are not reaches.
+SETTLED = (("a", 2), ("b", 2), ("c", 9), ("d", 3))
 
-# Each call, with what is handed in behind the deck, by its place and by its name.
+# Each call of a deck, with what is handed in behind it, by its place and by its name.
 ASKS = [
     (deck_of, (), {}),
     (slid, (), {}),
@@ -29,7 +38,37 @@ ASKS = [
     (decks_ahead, (), {"steps": 0}),
     (decks_ahead, (), {"steps": 3}),
     (goes_back, (4,), {}),
+    (place_of, ("c",), {}),
+    (is_home, ("b",), {}),
+    (closed_place, (), {}),
+    (away, (), {}),
+    (hand_at, (2,), {}),
+    (ring_at, (2,), {}),
+    (is_settled, (), {}),
+    (orders_counted, (), {}),
+    (home_orders, (), {}),
+    (are_lasting, (), {}),
+    (seen_at, (0,), {}),
+    (seen_at, (HUGE,), {}),
+    (deck_at, (0,), {}),
+    (deck_at, (3,), {}),
+    (deck_at, (HUGE,), {}),
+    (how_often, (HUGE, "a"), {}),
+    (when_seen, ("a", 0), {}),
+    (when_seen, ("c", 5), {}),
 ]
+
+# Those of a settled deck, or of lasting cards, alone.
+SETTLED_ASKS = [
+    (patterns, (), {}),
+    (ring_sizes, (), {}),
+    (home_orders, (), {}),
+    (away, (), {}),
+    (deck_at, (HUGE,), {}),
+]
+
+# What is asked, with the deck that it is asked of.
+BOTH = [(DECK,) + ask for ask in ASKS] + [(SETTLED,) + ask for ask in SETTLED_ASKS]
 
 REFUSED = [
     (slid, (as_lists(DECK) + [["a", 0]],), {}, NoDeck),
@@ -48,6 +87,19 @@ REFUSED = [
     (decks_ahead, (as_lists(deck_with(range(40))),), {"steps": 3}, TooMany),
     (goes_back, (as_lists(DECK), 31), {}, NoNumber),
     (goes_back, (as_lists(deck_with(range(40))), 3), {}, TooMany),
+    (place_of, (as_lists(DECK), "n"), {}, NoName),
+    (is_home, (as_lists(DECK), ["a"]), {}, NoName),
+    (hand_at, (as_lists(DECK), 3), {}, NoLevel),
+    (ring_at, (as_lists(DECK), [0]), {}, NoLevel),
+    (patterns, (as_lists(DECK),), {}, NotSettled),
+    (home_orders, (as_lists(deck_with([7] * 8)),), {}, TooMany),
+    (ring_sizes, (as_lists(DECK),), {}, NotLasting),
+    (seen_at, (as_lists(DECK), -1), {}, NoStep),
+    (deck_at, (as_lists(DECK), [1]), {}, NoStep),
+    (how_often, (as_lists(DECK), -1, "a"), {}, NoStep),
+    (how_often, (as_lists(DECK), 5, "n"), {}, NoName),
+    (when_seen, (as_lists(DECK), "n", 0), {}, NoName),
+    (when_seen, (as_lists(DECK), "a", -1), {}, NoNumber),
 ]
 
 
@@ -56,23 +108,31 @@ def all_answers(deck):
     return [call(deck, *rest, **named) for call, rest, named in ASKS]
 
 
-def spoil(cards):
+def settled_answers(deck):
+    """What the calls tell of a settled deck of lasting cards."""
+    return [call(deck, *rest, **named) for call, rest, named in SETTLED_ASKS]
+
+
+def spoil(things):
     """Change a list and the lists within it."""
-    for card in cards:
-        if isinstance(card, list):
-            card[0] = "zz"
-            card.append(5)
-    cards.append("x")
-    cards.reverse()
+    for thing in things:
+        if isinstance(thing, list):
+            thing.append(5)
+            thing[0] = "zz"
+    things.append("x")
+    things.reverse()
 
 
 class Interface(unittest.TestCase):
     def test_each_function_is_defined_in_its_file(self):
-        listed = {
-            "slideback.decks": "deck_of slid row_seen deck_behind laid drawn deepened",
-            "slideback.ahead": "decks_ahead goes_back",
-        }
-        for module, names in ((decks, listed["slideback.decks"]), (ahead, listed["slideback.ahead"])):
+        listed = [
+            (decks, "deck_of slid row_seen deck_behind laid drawn deepened"),
+            (ahead, "decks_ahead goes_back"),
+            (levels, "place_of is_home closed_place away hand_at ring_at"),
+            (homes, "is_settled patterns orders_counted home_orders are_lasting ring_sizes"),
+            (far, "seen_at deck_at how_often when_seen"),
+        ]
+        for module, names in listed:
             for name in names.split():
                 with self.subTest(name):
                     self.assertTrue(inspect.isfunction(getattr(module, name)))
@@ -86,17 +146,23 @@ class Interface(unittest.TestCase):
         self.assertEqual(steps.kind, inspect.Parameter.KEYWORD_ONLY)
         self.assertEqual(steps.default, 1)
 
+    def test_arguments_are_handed_by_their_places(self):
+        self.assertEqual(how_often(DECK, 1, "a"), 1)
+        self.assertEqual(when_seen(DECK, "a", 0), 0)
+        for call, told in ((how_often, (DECK, "a", 1)), (when_seen, (DECK, 0, "a"))):
+            self.assertIsNotNone(refusal(call, *told))
+
 
 class NothingFromOutside(unittest.TestCase):
     """Promise 1: nothing uses a clock, chance or files."""
 
     def test_all_is_told_without_clock_chance_and_files(self):
-        before = all_answers(DECK)
+        before = (all_answers(DECK), settled_answers(SETTLED))
         outside = ["time.time", "time.monotonic", "time.perf_counter", "time.time_ns", "builtins.open", "io.open"]
         outside += ["os.open", "os.urandom", "random.random", "random.randrange", "random.shuffle", "random.choice"]
         with ExitStack() as barred:
             calls = [barred.enter_context(patch(name, side_effect=OSError)) for name in outside]
-            answers = all_answers(DECK)
+            answers = (all_answers(DECK), settled_answers(SETTLED))
             asked = [call.called for call in calls]
         self.assertEqual(answers, before)
         self.assertEqual(asked, [False] * len(outside))
@@ -108,6 +174,7 @@ class KindsThatAreTold(unittest.TestCase):
             told = [deck_of(deck), slid(deck), deck_behind(deck, 0), deck_behind(deck, 7)]
             told += [laid(deck, ("n", 1), 4), laid(deck, ["n", 1], 0), drawn(deck, "a"), deepened(deck, "a", HUGE)]
             told += decks_ahead(deck) + decks_ahead(deck, steps=0) + decks_ahead(deck, steps=2)
+            told += home_orders(deck) + [deck_at(deck, 0), deck_at(deck, 1), deck_at(deck, HUGE)]
             for one in told:
                 self.assertTrue(is_told_deck(one), one)
 
@@ -117,6 +184,25 @@ class KindsThatAreTold(unittest.TestCase):
                 row = row_seen(deck, steps)
                 self.assertIs(type(row), list)
                 self.assertEqual([type(name) for name in row], [str] * steps)
+            for names in (away(deck), hand_at(deck, 1), hand_at(deck, 2), ring_at(deck, 0), ring_at(deck, 2)):
+                self.assertIs(type(names), list)
+                self.assertEqual({type(name) for name in names}, {str})
+            self.assertIs(type(seen_at(deck, 3)), str)
+
+    def test_lists_within_lists(self):
+        for deck in all_forms(SETTLED):
+            rows = patterns(deck)
+            self.assertIs(type(rows), list)
+            self.assertEqual([type(row) for row in rows], [list] * 4)
+            self.assertEqual([type(thing) for thing in rows[2]], [str, str, type(None)])
+
+    def test_whole_numbers_and_truths(self):
+        for deck in all_forms(SETTLED):
+            numbers = [place_of(deck, "b"), closed_place(deck), orders_counted(deck), goes_back(deck, 3)]
+            numbers += [how_often(deck, 9, "b"), how_often(deck, HUGE, "b"), when_seen(deck, "b", 3)] + ring_sizes(deck)
+            self.assertEqual({type(number) for number in numbers}, {int})
+            truths = [is_home(deck, "b"), is_settled(deck), are_lasting(deck), is_settled(slid(DECK)), is_settled(DECK)]
+            self.assertEqual({type(truth) for truth in truths}, {bool})
 
     def test_what_is_told_may_be_handed_in(self):
         for deck in chance_decks(40, 2):
@@ -124,12 +210,17 @@ class KindsThatAreTold(unittest.TestCase):
             self.assertEqual(deck_of(behind), behind)
             for one in decks_ahead(behind):
                 self.assertEqual(slid(one), behind)
+            far_on = deck_at(behind, HUGE)
+            often = how_often(behind, HUGE * HUGE, far_on[0][0])
+            step = when_seen(behind, far_on[0][0], often)
+            self.assertEqual(seen_at(far_on, step - HUGE), far_on[0][0])
+            self.assertEqual(place_of(deck_at(behind, step), seen_at(behind, step)), 0)
 
 
 class HandedInStays(unittest.TestCase):
     def test_what_is_answered_leaves_it_as_it_was(self):
-        for form in all_forms(DECK):
-            for call, rest, named in ASKS:
+        for deck, call, rest, named in BOTH:
+            for form in all_forms(deck):
                 with self.subTest(call=call.__name__, form=form):
                     self.assertIsNone(refusal(call, form, *rest, **named))
                     self.assertTrue(left_alone(call, form, *rest, **named))
@@ -141,10 +232,10 @@ class HandedInStays(unittest.TestCase):
                 self.assertTrue(left_alone(call, *told, **named))
 
     def test_what_is_refused_changes_no_answer(self):
-        before = all_answers(DECK)
+        before = (all_answers(DECK), settled_answers(SETTLED))
         for call, told, named, why in REFUSED:
             self.assertIs(refusal(call, *told, **named), why)
-            self.assertEqual(all_answers(DECK), before)
+            self.assertEqual((all_answers(DECK), settled_answers(SETTLED)), before)
 
     def test_what_is_refused_is_refused_again(self):
         for call, told, named, why in REFUSED + REFUSED:
@@ -156,50 +247,64 @@ class OnesOwn(unittest.TestCase):
         first = all_answers(DECK)
         self.assertEqual(all_answers(as_lists(DECK)), first)
         self.assertEqual(all_answers(DECK), first)
+        first = settled_answers(SETTLED)
+        self.assertEqual(settled_answers(as_lists(SETTLED)), first)
+        self.assertEqual(settled_answers(SETTLED), first)
         for deck in chance_decks(20, 22, 9):
-            for ask in (slid, lambda told: row_seen(told, 9), lambda told: decks_ahead(told, steps=3)):
+            for ask in (slid, lambda told: row_seen(told, 9), lambda told: decks_ahead(told, steps=3), away):
                 self.assertEqual(ask(deck), ask(deck))
+            for steps in (9, HUGE):
+                self.assertEqual(deck_at(deck, steps), deck_at(deck, steps))
 
     def test_a_told_list_that_is_changed_changes_no_later_answer(self):
-        for call, rest, named in ASKS:
-            answer = call(DECK, *rest, **named)
+        for deck, call, rest, named in BOTH:
+            answer = call(deck, *rest, **named)
             if type(answer) is not list:
                 continue
             with self.subTest(call=call.__name__, rest=rest, named=named):
-                before = list(answer)
-                answer.append("x")
-                answer.reverse()
-                self.assertEqual(call(DECK, *rest, **named), before)
+                before = deepcopy(answer)
+                spoil(answer)
+                self.assertEqual(call(deck, *rest, **named), before)
                 answer.clear()
-                self.assertEqual(call(DECK, *rest, **named), before)
-                self.assertIsNot(call(DECK, *rest, **named), call(DECK, *rest, **named))
+                self.assertEqual(call(deck, *rest, **named), before)
+                self.assertIsNot(call(deck, *rest, **named), call(deck, *rest, **named))
+
+    def test_lists_within_a_told_list_are_each_ones_own(self):
+        before = deepcopy(patterns(SETTLED))
+        rows = patterns(SETTLED)
+        for at, row in enumerate(rows):
+            row.append("x")
+            self.assertEqual(rows[at + 1:], before[at + 1:])
+            self.assertEqual(patterns(SETTLED), before)
+            row.clear()
+        self.assertEqual(patterns(SETTLED), before)
 
     def test_a_told_list_is_not_changed_by_later_asks(self):
-        row = row_seen(DECK, 6)
-        some = decks_ahead(DECK, steps=2)
-        kept = (list(row), list(some))
+        told = [call(deck, *rest, **named) for deck, call, rest, named in BOTH]
+        kept = deepcopy(told)
         all_answers(DECK)
-        all_answers([["c", 1], ["b", 0], ["a", 9]])
-        self.assertEqual((row, some), kept)
+        all_answers([["c", 2], ["b", 0], ["a", 9]])
+        settled_answers([["c", 1], ["b", 2], ["a", 9]])
+        self.assertEqual(told, kept)
 
     def test_a_list_that_is_changed_behind_an_ask_changes_no_answer(self):
-        for call, rest, named in ASKS:
+        for deck, call, rest, named in BOTH:
             with self.subTest(call=call.__name__, rest=rest, named=named):
-                expected = call(DECK, *rest, **named)
-                handed = [as_lists(DECK)] + deepcopy(list(rest))
+                expected = call(deck, *rest, **named)
+                handed = [as_lists(deck)] + deepcopy(list(rest))
                 answer = call(*handed, **named)
                 for thing in handed:
                     if isinstance(thing, list):
                         spoil(thing)
                 self.assertEqual(answer, expected)
-                self.assertEqual(call(as_lists(DECK), *rest, **named), expected)
+                self.assertEqual(call(as_lists(deck), *rest, **named), expected)
 
     def test_a_changed_list_is_read_anew(self):
         cards = as_lists(DECK)
         before = all_answers(cards)
-        cards[0][1] = 1
+        cards[0][1] = 5
         cards[3][1] = 0
-        self.assertEqual(all_answers(cards), all_answers((("a", 1), ("b", 0), ("c", 2), ("d", 0))))
+        self.assertEqual(all_answers(cards), all_answers((("a", 5), ("b", 0), ("c", 2), ("d", 0))))
         self.assertNotEqual(all_answers(cards), before)
 
 
@@ -214,6 +319,16 @@ class WholeNumbers(unittest.TestCase):
             self.assertIs(refusal(deepened, DECK, "a", truth), NoDepth)
             self.assertIs(refusal(decks_ahead, DECK, steps=truth), NoNumber)
             self.assertIs(refusal(goes_back, DECK, truth), NoNumber)
+            self.assertIs(refusal(hand_at, DECK, truth), NoLevel)
+            self.assertIs(refusal(ring_at, DECK, truth), NoLevel)
+            self.assertIs(refusal(seen_at, DECK, truth), NoStep)
+            self.assertIs(refusal(deck_at, DECK, truth), NoStep)
+            self.assertIs(refusal(how_often, DECK, truth, "a"), NoStep)
+            self.assertIs(refusal(when_seen, DECK, "a", truth), NoNumber)
+            for call in (closed_place, away, is_settled, patterns):
+                self.assertIs(refusal(call, [("a", truth)]), NoDeck)
+            for call in (orders_counted, home_orders, are_lasting, ring_sizes):
+                self.assertIs(refusal(call, [("a", truth)]), NoDeck)
 
     def test_thirty_figures(self):
         deck = (("a", HUGE), ("b", HUGE - 1))
