@@ -1,7 +1,7 @@
 """What several tests share: decks, things that are none, and sliding written out anew."""
 
 from copy import deepcopy
-from itertools import product
+from itertools import permutations, product
 from random import Random
 
 HUGE = 10 ** 30 - 1
@@ -150,6 +150,33 @@ def rising_deck(cards):
     return deck_with(range(1, cards + 1))
 
 
+def late_deck(cards, depth):
+    """A rising deck whose last card has another depth, and is away."""
+    return rising_deck(cards)[:-1] + ((deck_with([0] * cards)[-1][0], depth),)
+
+
+def near_decks():
+    """Decks of all sizes, settled ones and such with cards away."""
+    return chance_decks(12, 15) + lively_decks(12, 16) + lively_decks(8, 17, odds=0) + lively_decks(8, 18, odds=0.3)
+
+
+def far_decks():
+    """Large decks, settled ones and such with cards away near and far."""
+    decks = late_decks(6, 19) + lively_decks(3, 20, 12) + lively_decks(2, 21, 12, odds=0)
+    return decks + [late_deck(40, 37), crowded_deck()]
+
+
+def far_steps(many, seed):
+    """So many steps of all sizes up to thirty figures, the same ones each time."""
+    chance = Random(seed)
+    return [chance.randrange(10 ** chance.randint(1, 30)) for _ in range(many)]
+
+
+def plateau_deck(size):
+    """A settled deck of forty cards whose rings grow to a size and keep it; it comes round by size ** (41 - size)."""
+    return deck_with(list(range(size - 1, 39)) + [39] * size)
+
+
 def reaches_by_hand(deck):
     """The reaches of a deck's cards, from the top on."""
     return [min(depth, len(deck) - 1) for _, depth in deck]
@@ -165,6 +192,28 @@ def away_by_hand(deck):
     """The names above the closed place that lie beneath their reaches, from the top on."""
     reaches = reaches_by_hand(deck)
     return [deck[place][0] for place in range(closed_by_hand(deck)) if reaches[place] < place]
+
+
+def home_by_hand(deck):
+    """The names of all cards that do not lie beneath their reaches."""
+    return [name for place, (name, _) in enumerate(deck) if place <= reaches_by_hand(deck)[place]]
+
+
+def settled_decks():
+    """Settled decks of all sizes, closed early and late."""
+    decks = [deck for deck in lively_decks(60, 12) + chance_decks(60, 12) if not away_by_hand(deck)]
+    decks += lively_decks(60, 125, odds=0)
+    return decks + [deck_with([39] * 40), deck_with(range(40)), rising_deck(40), deck_with([0]), deck_with([5])]
+
+
+def is_home_order(deck):
+    """Whether no card of a deck lies beneath its reach."""
+    return all(place <= reach for place, reach in enumerate(reaches_by_hand(deck)))
+
+
+def orders_by_hand(cards):
+    """All orders in which no card lies beneath its reach, sorted."""
+    return sorted(order for order in permutations(cards) if is_home_order(order))
 
 
 class GoneByHand:
@@ -207,6 +256,18 @@ class GoneByHand:
             return None
         turns, at = divmod(number - len(ahead), len(round_))
         return turns * self.length + round_[at]
+
+
+def primes_of(number):
+    """The primes that divide a number, which has no large ones."""
+    primes = []
+    for one in range(2, 100):
+        if number % one == 0:
+            primes.append(one)
+            while number % one == 0:
+                number //= one
+    assert number == 1
+    return primes
 
 
 def left_alone(call, *told, **named):

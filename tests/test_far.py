@@ -1,41 +1,18 @@
 """Promises 15 and 16: what is seen however far, how often and when; 4, as far as it tells of far steps."""
 
 import unittest
-from random import Random
 
 from slideback.errors import NoDeck, NoName, NoNumber, NoStep
 from slideback.far import deck_at, how_often, seen_at, when_seen
 from tests.common import (
     HUGE, NO_COUNTS, NO_DECKS, NO_NAMES, GoneByHand, all_forms, away_by_hand, chance_decks, closed_by_hand,
-    crowded_deck, deck_with, gone_by_hand, is_told_deck, late_decks, lively_decks, reaches_by_hand, refusal,
-    rising_deck, slid_by_hand, small_decks,
+    deck_with, far_decks, far_steps, gone_by_hand, is_told_deck, late_deck, late_decks, lively_decks, near_decks,
+    reaches_by_hand, refusal, rising_deck, slid_by_hand, small_decks,
 )
 
 # a is seen once, then b again and again; c lies beneath the closing.
 THREE = (("a", 1), ("b", 0), ("c", 9))
 FAR = (0, 1, 2, 3, 5, 8, 64, 1000, 10 ** 6 + 1, 10 ** 18 - 7, HUGE - 1, HUGE, HUGE * HUGE + 12345)
-
-
-def near_decks():
-    """Decks of all sizes, settled ones and such with cards away."""
-    return chance_decks(12, 15) + lively_decks(12, 16) + lively_decks(8, 17, odds=0) + lively_decks(8, 18, odds=0.3)
-
-
-def far_decks():
-    """Large decks, settled ones and such with cards away near and far."""
-    decks = late_decks(6, 19) + lively_decks(3, 20, 12) + lively_decks(2, 21, 12, odds=0)
-    return decks + [late_deck(40, 37), crowded_deck()]
-
-
-def late_deck(cards, depth):
-    """A rising deck whose last card has another depth, and is away."""
-    return rising_deck(cards)[:-1] + ((deck_with([0] * cards)[-1][0], depth),)
-
-
-def far_steps(many, seed):
-    """So many steps of all sizes up to thirty figures, the same ones each time."""
-    chance = Random(seed)
-    return [chance.randrange(10 ** chance.randint(1, 30)) for _ in range(many)]
 
 
 def name_of_rising(cards, step):

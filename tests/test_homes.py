@@ -9,19 +9,13 @@ from slideback.errors import NoDeck, NotLasting, NotSettled, TooMany
 from slideback.homes import are_lasting, home_orders, is_settled, orders_counted, patterns, ring_sizes
 from slideback.levels import hand_at, ring_at
 from tests.common import (
-    HUGE, NO_DECKS, GoneByHand, all_forms, as_lists, away_by_hand, chance_decks, closed_by_hand, deck_with,
-    gone_by_hand, letters, lively_decks, reaches_by_hand, refusal, rising_deck, small_decks,
+    HUGE, NO_DECKS, all_forms, as_lists, away_by_hand, chance_decks, closed_by_hand, deck_with,
+    gone_by_hand, is_home_order, lively_decks, orders_by_hand, reaches_by_hand, refusal, rising_deck,
+    settled_decks, small_decks,
 )
 
 # Its rings are of 1, 2, 3, 3 and 2 cards.
 FIVE = (("e", 7), ("a", 2), ("d", 3), ("b", 3), ("c", 9))
-
-
-def settled_decks():
-    """Settled decks of all sizes, closed early and late."""
-    decks = [deck for deck in lively_decks(60, 12) + chance_decks(60, 12) if not away_by_hand(deck)]
-    decks += lively_decks(60, 125, odds=0)
-    return decks + [deck_with([39] * 40), deck_with(range(40)), rising_deck(40), deck_with([0]), deck_with([5])]
 
 
 def pattern_by_hand(deck, level):
@@ -29,16 +23,6 @@ def pattern_by_hand(deck, level):
     cards = list(zip([name for name, _ in deck], reaches_by_hand(deck)))
     ring = [card for card in cards[:level] if card[1] >= level] + [cards[level]]
     return [name if reach == level else None for name, reach in ring]
-
-
-def orders_by_hand(cards):
-    """All orders in which no card lies beneath its reach, sorted."""
-    return sorted(order for order in permutations(cards) if is_home_order(order))
-
-
-def is_home_order(deck):
-    """Whether no card of a deck lies beneath its reach."""
-    return all(place <= reach for place, reach in enumerate(reaches_by_hand(deck)))
 
 
 class IsSettled(unittest.TestCase):

@@ -6,16 +6,19 @@ from contextlib import ExitStack
 from copy import deepcopy
 from unittest.mock import patch
 
-from slideback import ahead, decks, far, homes, levels
+from slideback import ahead, comings, decks, far, homes, levels, rounds, twos
 from slideback.ahead import decks_ahead, goes_back
+from slideback.comings import closings, fate, settled_behind
 from slideback.decks import deck_behind, deck_of, deepened, drawn, laid, row_seen, slid
 from slideback.errors import (
-    Full, Last, NoCard, NoDeck, NoDepth, NoLevel, NoName, NoNumber, NoPlace, NoStep, NotLasting, NotSettled, TooMany,
-    Twice,
+    Full, Last, NoCard, NoDeck, NoDepth, NoLevel, NoName, NoNumber, NoOrder, NoPlace, NoStep, NotLasting, NotSettled,
+    TooMany, Twice,
 )
 from slideback.far import deck_at, how_often, seen_at, when_seen
 from slideback.homes import are_lasting, home_orders, is_settled, orders_counted, patterns, ring_sizes
 from slideback.levels import away, closed_place, hand_at, is_home, place_of, ring_at
+from slideback.rounds import round_length, round_of, rounds_counted, share, steps_to
+from slideback.twos import first_sights, parting, unlike_places
 from tests.common import HUGE, all_forms, as_lists, chance_decks, deck_with, is_told_deck, left_alone, refusal
 
 # b is away.
@@ -56,6 +59,18 @@ ASKS = [
     (how_often, (HUGE, "a"), {}),
     (when_seen, ("a", 0), {}),
     (when_seen, ("c", 5), {}),
+    (comings.comings, (), {}),
+    (settled_behind, (), {}),
+    (closings, (), {}),
+    (fate, ("a",), {}),
+    (fate, ("c",), {}),
+    (round_of, (), {}),
+    (share, ("b",), {}),
+    (parting, ([["a", 2], ["b", 0]],), {}),
+    (parting, ([["a", 2], ["b", 0], ["c", 2], ["d", 2]],), {}),
+    (first_sights, (0,), {}),
+    (first_sights, (HUGE,), {}),
+    (unlike_places, ([["a", 2], ["b", 1]],), {}),
 ]
 
 # Those of a settled deck, or of lasting cards, alone.
@@ -65,6 +80,14 @@ SETTLED_ASKS = [
     (home_orders, (), {}),
     (away, (), {}),
     (deck_at, (HUGE,), {}),
+    (round_of, (), {}),
+    (share, ("b",), {}),
+    (round_length, (), {}),
+    (rounds_counted, (), {}),
+    (steps_to, ([["b", 2], ["c", 9], ["a", 2], ["d", 3]],), {}),
+    (steps_to, ([["a", 2], ["b", 2]],), {}),
+    (first_sights, (HUGE,), {}),
+    (unlike_places, ([["a", 2], ["b", 1]],), {}),
 ]
 
 # What is asked, with the deck that it is asked of.
@@ -100,6 +123,19 @@ REFUSED = [
     (how_often, (as_lists(DECK), 5, "n"), {}, NoName),
     (when_seen, (as_lists(DECK), "n", 0), {}, NoName),
     (when_seen, (as_lists(DECK), "a", -1), {}, NoNumber),
+    (comings.comings, ([["a", 0], ["b", -1]],), {}, NoDeck),
+    (settled_behind, ([["a", 0], ["a", 1]],), {}, NoDeck),
+    (closings, ([["a"]],), {}, NoDeck),
+    (fate, (as_lists(DECK), ["a"]), {}, NoName),
+    (round_of, ([[]],), {}, NoDeck),
+    (share, (as_lists(DECK), "n"), {}, NoName),
+    (round_length, ([["a", 0], ["b", 0]],), {}, NoOrder),
+    (rounds_counted, ([["a", 0], ["b", 0]],), {}, NoOrder),
+    (steps_to, (as_lists(DECK), as_lists(SETTLED)), {}, NotSettled),
+    (steps_to, (as_lists(SETTLED), as_lists(DECK)), {}, NotSettled),
+    (parting, (as_lists(DECK), [["a", 0], ["a", 1]]), {}, NoDeck),
+    (first_sights, (as_lists(DECK), [1]), {}, NoStep),
+    (unlike_places, (as_lists(DECK), [["a", [0]]]), {}, NoDeck),
 ]
 
 
@@ -113,14 +149,21 @@ def settled_answers(deck):
     return [call(deck, *rest, **named) for call, rest, named in SETTLED_ASKS]
 
 
-def spoil(things):
-    """Change a list and the lists within it."""
-    for thing in things:
-        if isinstance(thing, list):
-            thing.append(5)
-            thing[0] = "zz"
-    things.append("x")
-    things.reverse()
+def lists_in(thing):
+    """The lists that a thing is and has, within tuples too."""
+    if not isinstance(thing, (list, tuple)):
+        return []
+    within = [one for part in thing for one in lists_in(part)]
+    return [thing] + within if isinstance(thing, list) else within
+
+
+def spoil(thing):
+    """Change a thing, where it is a list, and the lists within it."""
+    for one in lists_in(thing):
+        if one:
+            one[0] = "zz"
+        one.append("x")
+        one.reverse()
 
 
 class Interface(unittest.TestCase):
@@ -131,6 +174,9 @@ class Interface(unittest.TestCase):
             (levels, "place_of is_home closed_place away hand_at ring_at"),
             (homes, "is_settled patterns orders_counted home_orders are_lasting ring_sizes"),
             (far, "seen_at deck_at how_often when_seen"),
+            (comings, "comings settled_behind closings fate"),
+            (rounds, "round_of share round_length rounds_counted steps_to"),
+            (twos, "parting first_sights unlike_places"),
         ]
         for module, names in listed:
             for name in names.split():
@@ -215,6 +261,12 @@ class KindsThatAreTold(unittest.TestCase):
             step = when_seen(behind, far_on[0][0], often)
             self.assertEqual(seen_at(far_on, step - HUGE), far_on[0][0])
             self.assertEqual(place_of(deck_at(behind, step), seen_at(behind, step)), 0)
+            for step, names in comings.comings(deck):
+                self.assertLessEqual(set(names), set(away(deck_at(deck, step))))
+            first, length = round_of(deck)
+            self.assertEqual(settled_behind(deck), first)
+            self.assertEqual(steps_to(deck_at(deck, first), deck_at(deck, first + length * HUGE)), 0)
+            self.assertEqual(first_sights(deck, first + length * HUGE), first_sights(deck, first))
 
 
 class HandedInStays(unittest.TestCase):
@@ -259,15 +311,15 @@ class OnesOwn(unittest.TestCase):
     def test_a_told_list_that_is_changed_changes_no_later_answer(self):
         for deck, call, rest, named in BOTH:
             answer = call(deck, *rest, **named)
-            if type(answer) is not list:
-                continue
             with self.subTest(call=call.__name__, rest=rest, named=named):
                 before = deepcopy(answer)
                 spoil(answer)
                 self.assertEqual(call(deck, *rest, **named), before)
-                answer.clear()
+                for one in lists_in(answer):
+                    one.clear()
                 self.assertEqual(call(deck, *rest, **named), before)
-                self.assertIsNot(call(deck, *rest, **named), call(deck, *rest, **named))
+                told = lists_in([call(deck, *rest, **named) for _ in range(3)])
+                self.assertEqual(len({id(one) for one in told}), len(told))
 
     def test_lists_within_a_told_list_are_each_ones_own(self):
         before = deepcopy(patterns(SETTLED))
@@ -293,9 +345,7 @@ class OnesOwn(unittest.TestCase):
                 expected = call(deck, *rest, **named)
                 handed = [as_lists(deck)] + deepcopy(list(rest))
                 answer = call(*handed, **named)
-                for thing in handed:
-                    if isinstance(thing, list):
-                        spoil(thing)
+                spoil(handed)
                 self.assertEqual(answer, expected)
                 self.assertEqual(call(as_lists(deck), *rest, **named), expected)
 
@@ -325,6 +375,11 @@ class WholeNumbers(unittest.TestCase):
             self.assertIs(refusal(deck_at, DECK, truth), NoStep)
             self.assertIs(refusal(how_often, DECK, truth, "a"), NoStep)
             self.assertIs(refusal(when_seen, DECK, "a", truth), NoNumber)
+            self.assertIs(refusal(first_sights, DECK, truth), NoStep)
+            for call in (comings.comings, settled_behind, closings, round_of, round_length, rounds_counted):
+                self.assertIs(refusal(call, [("a", truth)]), NoDeck)
+            for call in (steps_to, parting, unlike_places):
+                self.assertIs(refusal(call, DECK, [("a", truth)]), NoDeck)
             for call in (closed_place, away, is_settled, patterns):
                 self.assertIs(refusal(call, [("a", truth)]), NoDeck)
             for call in (orders_counted, home_orders, are_lasting, ring_sizes):
