@@ -216,6 +216,13 @@ def orders_by_hand(cards):
     return sorted(order for order in permutations(cards) if is_home_order(order))
 
 
+def pattern_by_hand(deck, level):
+    """The names above the level's place that reach it or more, and the one at it; None for reaches above."""
+    cards = list(zip([name for name, _ in deck], reaches_by_hand(deck)))
+    ring = [card for card in cards[:level] if card[1] >= level] + [cards[level]]
+    return [name if reach == level else None for name, reach in ring]
+
+
 class GoneByHand:
     """A deck gone through card by card until it comes round; small decks alone come round soon."""
 

@@ -9,20 +9,12 @@ from slideback.errors import NoDeck, NotLasting, NotSettled, TooMany
 from slideback.homes import are_lasting, home_orders, is_settled, orders_counted, patterns, ring_sizes
 from slideback.levels import hand_at, ring_at
 from tests.common import (
-    HUGE, NO_DECKS, all_forms, as_lists, away_by_hand, chance_decks, closed_by_hand, deck_with,
-    gone_by_hand, is_home_order, lively_decks, orders_by_hand, reaches_by_hand, refusal, rising_deck,
-    settled_decks, small_decks,
+    HUGE, NO_DECKS, all_forms, as_lists, away_by_hand, chance_decks, closed_by_hand, deck_with, gone_by_hand,
+    is_home_order, lively_decks, orders_by_hand, pattern_by_hand, refusal, rising_deck, settled_decks, small_decks,
 )
 
 # Its rings are of 1, 2, 3, 3 and 2 cards.
 FIVE = (("e", 7), ("a", 2), ("d", 3), ("b", 3), ("c", 9))
-
-
-def pattern_by_hand(deck, level):
-    """The names above the level's place that reach it or more, and the one at it; None for reaches above."""
-    cards = list(zip([name for name, _ in deck], reaches_by_hand(deck)))
-    ring = [card for card in cards[:level] if card[1] >= level] + [cards[level]]
-    return [name if reach == level else None for name, reach in ring]
 
 
 class IsSettled(unittest.TestCase):

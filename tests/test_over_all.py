@@ -6,18 +6,22 @@ from contextlib import ExitStack
 from copy import deepcopy
 from unittest.mock import patch
 
-from slideback import ahead, comings, decks, far, homes, levels, rounds, twos
+from slideback import ahead, comings, decks, desk, far, homes, levels, papers, rounds, seen, texts, twos
 from slideback.ahead import decks_ahead, goes_back
 from slideback.comings import closings, fate, settled_behind
 from slideback.decks import deck_behind, deck_of, deepened, drawn, laid, row_seen, slid
+from slideback.desk import Desk
 from slideback.errors import (
-    Full, Last, NoCard, NoDeck, NoDepth, NoLevel, NoName, NoNumber, NoOrder, NoPlace, NoStep, NotLasting, NotSettled,
-    TooMany, Twice,
+    DeckError, Full, Last, NoCard, NoDeck, NoDepth, NoDepths, NoForm, NoLevel, NoName, NoNames, NoneYet, NoNumber,
+    NoOrder, NoPlace, NoRow, NoStep, NoText, NotLasting, NotSettled, TooMany, Twice,
 )
 from slideback.far import deck_at, how_often, seen_at, when_seen
 from slideback.homes import are_lasting, home_orders, is_settled, orders_counted, patterns, ring_sizes
 from slideback.levels import away, closed_place, hand_at, is_home, place_of, ring_at
+from slideback.papers import never_paper, never_shows, paper_of, paper_shows
 from slideback.rounds import round_length, round_of, rounds_counted, share, steps_to
+from slideback.seen import all_depths, depths_let, wished
+from slideback.texts import deck_text, patterns_text, read_deck
 from slideback.twos import first_sights, parting, unlike_places
 from tests.common import HUGE, all_forms, as_lists, chance_decks, deck_with, is_told_deck, left_alone, refusal
 
@@ -71,6 +75,11 @@ ASKS = [
     (first_sights, (0,), {}),
     (first_sights, (HUGE,), {}),
     (unlike_places, ([["a", 2], ["b", 1]],), {}),
+    (never_paper, ("c",), {}),
+    (never_shows, ("c", [1, 1]), {}),
+    (never_shows, ("c", [0, [1]]), {}),
+    (wished, (2, "a"), {}),
+    (deck_text, (), {}),
 ]
 
 # Those of a settled deck, or of lasting cards, alone.
@@ -88,6 +97,11 @@ SETTLED_ASKS = [
     (steps_to, ([["a", 2], ["b", 2]],), {}),
     (first_sights, (HUGE,), {}),
     (unlike_places, ([["a", 2], ["b", 1]],), {}),
+    (paper_of, (5,), {}),
+    (paper_of, (HUGE,), {}),
+    (paper_shows, (5, "a", [[5, 5, 0], [5, 2, 1]]), {}),
+    (paper_shows, (1, "b", [[1, 1, 0], [1, 0, 1], [1, 0, 1]]), {}),
+    (patterns_text, (), {}),
 ]
 
 # What is asked, with the deck that it is asked of.
@@ -136,6 +150,36 @@ REFUSED = [
     (parting, (as_lists(DECK), [["a", 0], ["a", 1]]), {}, NoDeck),
     (first_sights, (as_lists(DECK), [1]), {}, NoStep),
     (unlike_places, (as_lists(DECK), [["a", [0]]]), {}, NoDeck),
+    (paper_of, (as_lists(DECK), 1), {}, NotSettled),
+    (paper_of, (as_lists(SETTLED), [1]), {}, NoStep),
+    (paper_shows, (as_lists(DECK), 1, "a", [[1, 1, 0]]), {}, NotSettled),
+    (paper_shows, (as_lists(SETTLED), -1, "a", [[1, 1, 0]]), {}, NoStep),
+    (paper_shows, (as_lists(SETTLED), 1, ["a"], [[1, 1, 0]]), {}, NoName),
+    (never_paper, (as_lists(DECK), "n"), {}, NoName),
+    (never_shows, (as_lists(DECK), ["a"], [1, 1]), {}, NoName),
+    (depths_let, (["a", "a"], ["a"], [0, 0]), {}, NoNames),
+    (depths_let, (["a", "b"], ["a", ["b"]], [0, 0]), {}, NoRow),
+    (depths_let, (["a", "b"], ["a", "b"], [0, [0]]), {}, NoDepths),
+    (all_depths, (["a", ["b"]], ["a"]), {}, NoNames),
+    (all_depths, (["a", "b"], ["a", "n"]), {}, NoRow),
+    (all_depths, (["a", "b", "c", "d", "e"], ["a"]), {}, TooMany),
+    (wished, (as_lists(DECK), [1], "a"), {}, NoStep),
+    (wished, (as_lists(DECK), 1, ["a"]), {}, NoName),
+    (deck_text, ([["a", [1]]],), {}, NoDeck),
+    (patterns_text, (as_lists(DECK),), {}, NotSettled),
+    (read_deck, (["a:1"],), {}, NoText),
+    (read_deck, ("a:1 a:1",), {}, NoDeck),
+    (Desk().say, (["show"],), {}, NoForm),
+    (Desk().say, ("undo",), {}, NoneYet),
+]
+
+# What is asked of rows of names, with all that is handed in.
+ROW_ASKS = [
+    (depths_let, (["a", "b", "c"], ["a", "b", "a"], [1, 2, 2])),
+    (depths_let, (["a", "b", "c"], ["a", "b", "b"], [1, 2, 2])),
+    (all_depths, (["a", "b", "c"], ["a", "b", "a"])),
+    (all_depths, (["a", "b"], [])),
+    (all_depths, (["a", "b"], ["b"])),
 ]
 
 
@@ -177,12 +221,20 @@ class Interface(unittest.TestCase):
             (comings, "comings settled_behind closings fate"),
             (rounds, "round_of share round_length rounds_counted steps_to"),
             (twos, "parting first_sights unlike_places"),
+            (papers, "paper_of paper_shows never_paper never_shows"),
+            (seen, "depths_let all_depths wished"),
+            (texts, "deck_text patterns_text read_deck"),
         ]
         for module, names in listed:
             for name in names.split():
                 with self.subTest(name):
                     self.assertTrue(inspect.isfunction(getattr(module, name)))
                     self.assertEqual(getattr(module, name).__module__, module.__name__)
+
+    def test_the_class_is_defined_in_its_file(self):
+        self.assertTrue(inspect.isclass(desk.Desk))
+        self.assertEqual(desk.Desk.__module__, "slideback.desk")
+        self.assertTrue(inspect.isfunction(vars(desk.Desk)["say"]))
 
     def test_steps_is_left_out_or_told_by_its_name(self):
         for deck in all_forms(DECK):
@@ -195,8 +247,11 @@ class Interface(unittest.TestCase):
     def test_arguments_are_handed_by_their_places(self):
         self.assertEqual(how_often(DECK, 1, "a"), 1)
         self.assertEqual(when_seen(DECK, "a", 0), 0)
-        for call, told in ((how_often, (DECK, "a", 1)), (when_seen, (DECK, 0, "a"))):
+        for call, told in ((how_often, (DECK, "a", 1)), (when_seen, (DECK, 0, "a")), (wished, (DECK, "a", 1))):
             self.assertIsNotNone(refusal(call, *told))
+        self.assertIs(paper_shows(SETTLED, 0, "a", paper_of(SETTLED, 0)), True)
+        self.assertIs(never_shows(DECK, "c", never_paper(DECK, "c")), True)
+        self.assertIs(depths_let(["a", "b"], ["a", "b", "b"], [1, 0]), True)
 
 
 class NothingFromOutside(unittest.TestCase):
@@ -267,6 +322,20 @@ class KindsThatAreTold(unittest.TestCase):
             self.assertEqual(settled_behind(deck), first)
             self.assertEqual(steps_to(deck_at(deck, first), deck_at(deck, first + length * HUGE)), 0)
             self.assertEqual(first_sights(deck, first + length * HUGE), first_sights(deck, first))
+            self.assertEqual(read_deck(deck_text(deck)), deck)
+            settled = deck_at(deck, first)
+            step = length * HUGE + 7
+            self.assertIs(paper_shows(settled, step, seen_at(settled, step), paper_of(settled, step)), True)
+            for name, _ in deck:
+                paper = never_paper(deck, name)
+                self.assertEqual(paper is None, fate(deck, name) == ("ever",))
+                self.assertIs(never_shows(deck, name, paper), paper is not None)
+            row = row_seen(deck, 40)
+            names = [name for name, _ in deck]
+            self.assertIs(depths_let(names, row, [depth for _, depth in deck]), True)
+            if len(deck) < 5:
+                for depths in all_depths(names, row):
+                    self.assertIs(depths_let(names, row, depths), True)
 
 
 class HandedInStays(unittest.TestCase):
@@ -276,6 +345,11 @@ class HandedInStays(unittest.TestCase):
                 with self.subTest(call=call.__name__, form=form):
                     self.assertIsNone(refusal(call, form, *rest, **named))
                     self.assertTrue(left_alone(call, form, *rest, **named))
+
+    def test_rows_of_names_stay(self):
+        for call, told in ROW_ASKS:
+            self.assertIsNone(refusal(call, *told))
+            self.assertTrue(left_alone(call, *told))
 
     def test_what_is_refused_leaves_it_as_it_was(self):
         for call, told, named, why in REFUSED:
@@ -292,6 +366,7 @@ class HandedInStays(unittest.TestCase):
     def test_what_is_refused_is_refused_again(self):
         for call, told, named, why in REFUSED + REFUSED:
             self.assertIs(refusal(call, *told, **named), why)
+            self.assertEqual(why.__bases__, (DeckError,))
 
 
 class OnesOwn(unittest.TestCase):
@@ -320,6 +395,17 @@ class OnesOwn(unittest.TestCase):
                 self.assertEqual(call(deck, *rest, **named), before)
                 told = lists_in([call(deck, *rest, **named) for _ in range(3)])
                 self.assertEqual(len({id(one) for one in told}), len(told))
+
+    def test_rows_of_names_and_what_is_told_of_them(self):
+        for call, told in ROW_ASKS:
+            handed = deepcopy(told)
+            answer = call(*handed)
+            before = deepcopy(answer)
+            spoil(handed)
+            self.assertEqual(answer, before)
+            spoil(answer)
+            self.assertEqual(call(*told), before)
+            self.assertEqual(call(*[tuple(thing) for thing in told]), before)
 
     def test_lists_within_a_told_list_are_each_ones_own(self):
         before = deepcopy(patterns(SETTLED))
@@ -376,6 +462,12 @@ class WholeNumbers(unittest.TestCase):
             self.assertIs(refusal(how_often, DECK, truth, "a"), NoStep)
             self.assertIs(refusal(when_seen, DECK, "a", truth), NoNumber)
             self.assertIs(refusal(first_sights, DECK, truth), NoStep)
+            self.assertIs(refusal(paper_of, SETTLED, truth), NoStep)
+            self.assertIs(refusal(paper_shows, SETTLED, truth, "a", []), NoStep)
+            self.assertIs(refusal(wished, DECK, truth, "a"), NoStep)
+            self.assertIs(refusal(depths_let, ["a", "b"], ["a"], [0, truth]), NoDepths)
+            self.assertIs(refusal(all_depths, ["a", truth], []), NoNames)
+            self.assertIs(refusal(all_depths, ["a"], [truth]), NoRow)
             for call in (comings.comings, settled_behind, closings, round_of, round_length, rounds_counted):
                 self.assertIs(refusal(call, [("a", truth)]), NoDeck)
             for call in (steps_to, parting, unlike_places):
